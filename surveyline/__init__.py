@@ -1,0 +1,1 @@
+"""Reachability surveys of a changing object graph."""
