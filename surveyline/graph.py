@@ -1,4 +1,4 @@
-"""The objects, slots and names of one request."""
+"""The objects, slots and names of one request, and what was changed since its last survey."""
 
 NOTHING = 0
 OBJECT = 1
@@ -15,6 +15,13 @@ class Graph:
         self.slots = [(NOTHING, 0)] * SLOT_COUNT
         self.fields = {}
         self.stamps = {}
+        self.forget_changes()
+
+    # What decides which sources are affected begins anew with each survey.
+    def forget_changes(self):
+        self.slot_changed = False
+        self.changed_objects = {}
+        self.new_names = {}
 
     def create(self, field_count):
         self.created += 1
@@ -22,15 +29,22 @@ class Graph:
         return (OBJECT, self.created)
 
     def put(self, slot, value):
+        if self.slots[slot] != value:
+            self.slot_changed = True
         self.slots[slot] = value
 
     # Gives back whether the field had another value.
     def write(self, number, field, value):
         changed = self.fields[number][field] != value
+        if changed:
+            self.changed_objects[(OBJECT, number)] = True
         self.fields[number][field] = value
         return changed
 
+    # An entry that was retired and is exported again is as new as one that was none before.
     def use(self, name):
+        if name not in self.stamps:
+            self.new_names[name] = True
         self.uses += 1
         self.stamps[name] = self.uses
         return self.uses
@@ -40,6 +54,10 @@ class Graph:
 
     def imports(self):
         return [name for name in sorted(self.stamps) if name[0] == FOREIGN]
+
+    # Whether there is the object, entry or not, or the import.
+    def contains(self, value):
+        return value[1] in self.fields if value[0] == OBJECT else value in self.stamps
 
     # The objects and foreign references among the given values, and all that
     # the fields of these objects lead to; a dict, so that each is asked for at once.

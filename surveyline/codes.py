@@ -1,0 +1,8 @@
+"""The error codes."""
+
+OUT_OF_RANGE = -1
+NOT_IN_SLOT = -3
+NO_SUCH_FIELD = -5
+NO_SUCH_NAME = -6
+NO_SUCH_SURVEY = -7
+TOO_MANY = -8
